@@ -1,0 +1,1 @@
+"""Patterns by what they mean: which pieces of a text they fit."""
