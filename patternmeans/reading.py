@@ -227,10 +227,15 @@ class Reader:
             return self.keep(BYTE, [], [byte != ord("\n") for byte in range(256)])
         if self.passes("\\"):
             return self.read_escaped_atom()
-        if not is_printed(self.now()) or among(self.now(), NOT_PLAIN):
+        return self.keep_byte(self.read_plain(NOT_PLAIN))
+
+    def read_plain(self, barred):
+        """The byte that stands here for itself, which may be none of the barred signs."""
+        byte = self.now()
+        if not is_printed(byte) or among(byte, barred):
             raise Fault(CANNOT_STAND, self.place)
         self.place += 1
-        return self.keep_byte(self.pattern[self.place - 1])
+        return byte
 
     def keep_byte(self, only):
         """Keeps the form of one byte."""
@@ -253,10 +258,11 @@ class Reader:
         if self.passes("x"):
             upper = self.read_hex()
             return 16 * upper + self.read_hex()
-        if not among(self.now(), SPECIALS):
+        byte = self.now()
+        if not among(byte, SPECIALS):
             raise Fault(CANNOT_STAND, self.place)
         self.place += 1
-        return self.pattern[self.place - 1]
+        return byte
 
     def read_hex(self):
         """The value of the hex digit that stands here."""
@@ -292,10 +298,7 @@ class Reader:
         """The byte that stands here within a set."""
         if self.passes("\\"):
             return self.read_escaped()
-        if not is_printed(self.now()) or among(self.now(), NOT_PLAIN_IN_SET):
-            raise Fault(CANNOT_STAND, self.place)
-        self.place += 1
-        return self.pattern[self.place - 1]
+        return self.read_plain(NOT_PLAIN_IN_SET)
 
 
 def read_pattern(pattern):
