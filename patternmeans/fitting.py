@@ -4,15 +4,20 @@ What a form fits is told by a list: for each place of the subject a whole number
 whose bit j is 1 if the form fits from that place to j.
 """
 
-from patternmeans.forms import BEGIN, BOTH, BYTE, COUNTED, EDGE, EITHER, END, ROW, TURNED
+from patternmeans.forms import BEGIN, BOTH, BYTE, COUNTED, EDGE, EITHER, END, GROUP, ROW, TURNED
 
 
-def fits_piece(forms, subject, start, to):
-    """Whether the whole pattern, the last of its forms, fits the subject from start to to."""
+def all_ends(forms, subject):
+    """For each form of a pattern what it fits; the last one is the whole pattern."""
     ends_of = []
     for form in forms:
         ends_of.append(form_ends(form, ends_of, subject))
-    return ends_of[-1][start] >> to & 1 == 1
+    return ends_of
+
+
+def fits_piece(ends, start, to):
+    """Whether what fits so fits from start to to."""
+    return ends[start] >> to & 1 == 1
 
 
 def form_ends(form, ends_of, subject):
@@ -31,6 +36,8 @@ def form_ends(form, ends_of, subject):
         return turned_ends(parts[0])
     if form.kind == COUNTED:
         return counted_ends(parts[0], form.told[0], form.told[1])
+    if form.kind == GROUP:
+        return parts[0]
     return [1 << place if holds_at(form.kind, place, subject) else 0 for place in range(places)]
 
 

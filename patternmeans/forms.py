@@ -10,6 +10,7 @@ EITHER = "either"
 BOTH = "both"
 TURNED = "turned"
 COUNTED = "counted"
+GROUP = "group"
 
 
 class Form:
@@ -18,7 +19,8 @@ class Form:
     A pattern is kept as a flat list of forms, so that however deep it is, a loop
     goes through it. The parts are places in that list, all ahead of the form's own.
     What is told besides: of BYTE a list of 256 truths, whether each byte is one;
-    of COUNTED the least and the most (None: no most); of all others None.
+    of COUNTED the least and the most (None: no most); of GROUP its number; of all
+    others None.
     """
 
     def __init__(self, kind, parts, told):

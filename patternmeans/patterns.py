@@ -1,6 +1,8 @@
 """The calls: what is asked of a pattern, and what is answered."""
 
-from patternmeans.fitting import fits_piece
+from patternmeans.finding import found_from, found_spans
+from patternmeans.fitting import all_ends, fits_piece
+from patternmeans.grouping import group_places
 from patternmeans.reading import Fault, read_pattern
 
 LONGEST = 200
@@ -9,7 +11,11 @@ ANSWERED = 0
 REFUSED = 9
 BEYOND_BOUNDS = 1
 NO_PATTERN = 2
+NONE_FOUND = 5
 FIRST_PATTERN = 0
+
+NO_PLACE = 0
+PLACE = 1
 
 
 def judge(pattern):
@@ -31,7 +37,54 @@ def fits(start, to, pattern, subject):
         reader = read_pattern(pattern)
     except Fault as fault:
         return no_pattern(fault)
-    return [ANSWERED, 1 if fits_piece(reader.forms, subject, start, to) else 0]
+    ends = all_ends(reader.forms, subject)[-1]
+    return [ANSWERED, 1 if fits_piece(ends, start, to) else 0]
+
+
+def find(start, pattern, subject):
+    """Answers the span of the piece found from start on, and the places of its groups."""
+    if len(pattern) > LONGEST or len(subject) > LONGEST or start > len(subject):
+        return [REFUSED, BEYOND_BOUNDS]
+    try:
+        reader = read_pattern(pattern)
+    except Fault as fault:
+        return no_pattern(fault)
+    ends_of = all_ends(reader.forms, subject)
+    span = found_from(ends_of[-1], start)
+    if span is None:
+        return [REFUSED, NONE_FOUND]
+    return [ANSWERED] + list(span) + told_places(group_places(reader.forms, ends_of, span))
+
+
+def all_found(pattern, subject):
+    """Answers the spans of all pieces found."""
+    if len(pattern) > LONGEST or len(subject) > LONGEST:
+        return [REFUSED, BEYOND_BOUNDS]
+    try:
+        reader = read_pattern(pattern)
+    except Fault as fault:
+        return no_pattern(fault)
+    return [ANSWERED] + told_spans(found_spans(all_ends(reader.forms, subject)[-1]))
+
+
+def told_spans(spans):
+    """How many spans there are, then their numbers."""
+    numbers = [len(spans)]
+    for span in spans:
+        numbers.extend(span)
+    return numbers
+
+
+def told_places(places):
+    """How many groups there are, then for each whether it has a place, and the place's numbers."""
+    numbers = [len(places)]
+    for place in places:
+        if place is None:
+            numbers.append(NO_PLACE)
+        else:
+            numbers.append(PLACE)
+            numbers.extend(place)
+    return numbers
 
 
 def no_pattern(fault):

@@ -1,6 +1,6 @@
 """Reads a pattern into its forms, from the left, up to its first fault."""
 
-from patternmeans.forms import BEGIN, BOTH, BYTE, COUNTED, EDGE, EITHER, END, NO_EDGE, ROW, TURNED, Form
+from patternmeans.forms import BEGIN, BOTH, BYTE, COUNTED, EDGE, EITHER, END, GROUP, NO_EDGE, ROW, TURNED, Form
 
 SPECIALS = "\\|&~*+?{}.^$()[]-:"
 NOT_PLAIN = "\\|&~*+?{}.^$()[]"
@@ -45,7 +45,7 @@ def is_digit(byte):
 class Level:
     """What is read so far of the pattern within one pair of brackets, or of the whole."""
 
-    def __init__(self, shut, groups):
+    def __init__(self, shut, groups, group):
         self.rows = []
         self.parts = []
         self.pieces = []
@@ -53,6 +53,8 @@ class Level:
         # Shut: a ~ or an & further out forbids groups here.
         self.shut = shut
         self.groups_before_part = groups
+        # The number of the group whose bracket this is, or None.
+        self.group = group
 
     def bars_groups(self):
         """Whether no group may stand where the level is read to."""
@@ -67,7 +69,7 @@ class Reader:
         self.place = 0
         self.forms = []
         self.groups = 0
-        self.levels = [Level(False, 0)]
+        self.levels = [Level(False, 0, None)]
 
     def now(self):
         """The byte at the place, or PATTERN_ENDED."""
@@ -127,18 +129,24 @@ class Reader:
         bracket = self.place
         barred = self.levels[-1].bars_groups()
         self.place += 1
+        group = None
         if not self.passes(":"):
             if barred or self.groups == MOST_GROUPS:
                 raise Fault(WRONG_GROUP, bracket)
             self.groups += 1
-        self.levels.append(Level(barred, self.groups))
+            group = self.groups
+        self.levels.append(Level(barred, self.groups, group))
 
     def close_bracket(self):
         """Comes out of a bracket: what was within is an atom of what is around it."""
         if len(self.levels) == 1:
             raise Fault(CANNOT_STAND, self.place)
         self.place += 1
-        self.end_piece(self.end_level(self.levels.pop()))
+        level = self.levels.pop()
+        within = self.end_level(level)
+        if level.group is not None:
+            within = self.keep(GROUP, [within], level.group)
+        self.end_piece(within)
 
     def pass_both(self, level):
         """Goes past an &, which no part with a group may have behind it."""

@@ -1,8 +1,6 @@
 """What the tests share: calls by texts, and the document's "What fits" word by word."""
 
-from functools import lru_cache
-
-from patternmeans.patterns import fits, judge
+from patternmeans.patterns import all_found, find, fits, judge
 
 NOT_PLAIN = "\\|&~*+?{}.^$()[]"
 SPECIALS = NOT_PLAIN + "-:"
@@ -23,6 +21,27 @@ def fitted(pattern, subject, start=0, to=None):
     return fits(start, len(subject) if to is None else to, listed(pattern), subject)
 
 
+def found(pattern, subject, start=0):
+    return find(start, listed(pattern), listed(subject))
+
+
+def found_piece(piece, *places):
+    """What find answers by its piece and the places of the groups, each a span or None."""
+    answer = [0, *piece, len(places)]
+    for place in places:
+        answer += [0] if place is None else [1, *place]
+    return answer
+
+
+def everywhere(pattern, subject):
+    return all_found(listed(pattern), listed(subject))
+
+
+def found_pieces(*spans):
+    """What all_found answers by the spans."""
+    return [0, len(spans), *(place for span in spans for place in span)]
+
+
 def fault(rule, place):
     return [9, 2, 0, rule, place]
 
@@ -40,46 +59,98 @@ def members(pattern):
     return [byte for byte in range(256) if fitted(pattern, [byte]) == [0, 1]]
 
 
-def meant(tree, subject):
-    """All pieces that the tree fits, by the document's words alone.
+class Meant:
+    """What a tree fits in a subject, and its way, by the document's words alone.
 
     A tree is ("bytes", bytes), ("begin",), ("end",), ("edge",), ("no edge",),
-    ("row", trees), ("either", trees), ("both", trees), ("turned", tree)
-    or ("counted", tree, least, most), where most may be None.
+    ("row", trees), ("either", trees), ("both", trees), ("turned", tree),
+    ("counted", tree, least, most), where most may be None, or ("group", tree, number).
     """
-    length = len(subject)
 
-    @lru_cache(None)
-    def does(x, i, j):
+    def __init__(self, tree, subject):
+        self.tree = tree
+        self.subject = subject
+        self.length = len(subject)
+        self.known = {}
+
+    def does(self, x, i, j):
+        if (x, i, j) not in self.known:
+            self.known[x, i, j] = self.fits(x, i, j)
+        return self.known[x, i, j]
+
+    def fits(self, x, i, j):
         if x[0] == "bytes":
-            return j == i + 1 and subject[i] in x[1]
+            return j == i + 1 and self.subject[i] in x[1]
         if x[0] == "begin":
             return i == j == 0
         if x[0] == "end":
-            return i == j == length
+            return i == j == self.length
         if x[0] == "edge":
-            return i == j and edge(i)
+            return i == j and self.edge(i)
         if x[0] == "no edge":
-            return i == j and not edge(i)
+            return i == j and not self.edge(i)
         if x[0] == "row":
-            return in_row(x[1], i, j)
+            if not x[1]:
+                return i == j
+            return any(self.does(x[1][0], i, k) and self.does(("row", x[1][1:]), k, j) for k in range(i, j + 1))
         if x[0] == "either":
-            return any(does(y, i, j) for y in x[1])
+            return any(self.does(y, i, j) for y in x[1])
         if x[0] == "both":
-            return all(does(y, i, j) for y in x[1])
+            return all(self.does(y, i, j) for y in x[1])
         if x[0] == "turned":
-            return not does(x[1], i, j)
+            return not self.does(x[1], i, j)
+        if x[0] == "group":
+            return self.does(x[1], i, j)
         # More x's than bytes only fit with empty ones, which needn't be beyond the least.
         most = max(x[2], j - i) if x[3] is None else x[3]
-        return any(in_row((x[1],) * times, i, j) for times in range(x[2], most + 1))
+        return any(self.does(("row", (x[1],) * times), i, j) for times in range(x[2], most + 1))
 
-    def edge(i):
-        return (i > 0 and subject[i - 1] in WORD) != (i < length and subject[i] in WORD)
+    def edge(self, i):
+        before = i > 0 and self.subject[i - 1] in WORD
+        return before != (i < self.length and self.subject[i] in WORD)
 
-    @lru_cache(None)
-    def in_row(row, i, j):
-        if not row:
-            return i == j
-        return any(does(row[0], i, k) and in_row(row[1:], k, j) for k in range(i, j + 1))
+    def pieces(self):
+        """All pieces that the tree fits."""
+        places = range(self.length + 1)
+        return [(i, j) for i in places for j in places[i:] if self.does(self.tree, i, j)]
 
-    return [(i, j) for i in range(length + 1) for j in range(i, length + 1) if does(tree, i, j)]
+    def found(self, start):
+        """The piece found from the start on, or None."""
+        behind = [(i, j) for i, j in self.pieces() if i >= start]
+        first = [(i, j) for i, j in behind if i == behind[0][0]]
+        return max(first, default=None)
+
+    def all_found(self):
+        """All pieces found."""
+        spans = []
+        span = self.found(0)
+        while span is not None:
+            spans.append(span)
+            j = span[1]
+            span = self.found(j)
+            if span == (j, j):
+                span = self.found(j + 1)
+        return spans
+
+    def places(self, i, j):
+        """Of each group that fits on the way from i to j by its number where it does so last."""
+        places = {}
+        self.go(self.tree, i, j, places)
+        return places
+
+    def go(self, x, i, j, places):
+        if x[0] == "row" and x[1]:
+            k = max(k for k in range(i, j + 1) if self.does(x[1][0], i, k) and self.does(("row", x[1][1:]), k, j))
+            self.go(x[1][0], i, k, places)
+            self.go(("row", x[1][1:]), k, j, places)
+        if x[0] == "either":
+            self.go([y for y in x[1] if self.does(y, i, j)][0], i, j, places)
+        if x[0] == "group":
+            places[x[2]] = (i, j)
+            self.go(x[1], i, j, places)
+        if x[0] == "counted" and not (i == j and x[2] == 0):
+            rest = ("counted", x[1], max(x[2] - 1, 0), None if x[3] is None else x[3] - 1)
+            least = i if x[2] > 0 else i + 1
+            k = max(k for k in range(least, j + 1) if self.does(x[1], i, k) and self.does(rest, k, j))
+            self.go(x[1], i, k, places)
+            self.go(rest, k, j, places)

@@ -1,7 +1,7 @@
 import random
 import unittest
 
-from tests.helper import meant, pieces
+from tests.helper import Meant, everywhere, found, found_piece, found_pieces, judged, pieces
 
 ATOMS = [
     ("a", ("bytes", b"a")), ("b", ("bytes", b"b")), (" ", ("bytes", b" ")), ("[ab]", ("bytes", b"ab")),
@@ -20,42 +20,76 @@ class Drawn:
 
     def __init__(self, seed):
         self.draw = random.Random(seed)
+        self.groups = 0
 
-    def pattern(self, depth):
-        rows = [self.row(depth) for times in range(self.draw.choice((1, 1, 1, 2, 3)))]
+    def drawn(self, depth, fewest, longest):
+        """A pattern with no fewer groups and no more bytes, its tree, and how many groups it has."""
+        while True:
+            self.groups = 0
+            text, tree = self.pattern(depth, True)
+            if len(text) <= longest and self.groups >= fewest:
+                return text, tree, self.groups
+
+    def pattern(self, depth, open_to_groups):
+        rows = [self.row(depth, open_to_groups) for times in range(self.draw.choice((1, 1, 1, 2, 3)))]
         return "|".join(text for text, tree in rows), ("either", tuple(tree for text, tree in rows))
 
-    def row(self, depth):
-        parts = [self.part(depth) for times in range(self.draw.choice((1, 1, 1, 1, 2, 3)))]
+    def row(self, depth, open_to_groups):
+        how_many = self.draw.choice((1, 1, 1, 1, 2, 3))
+        if how_many == 1:
+            return self.part(depth, open_to_groups)
+        parts = [self.part(depth, False) for times in range(how_many)]
         return "&".join(text for text, tree in parts), ("both", tuple(tree for text, tree in parts))
 
-    def part(self, depth):
-        row = [self.piece(depth) for times in range(self.draw.choice((0, 1, 1, 1, 2, 2, 3)))]
+    def part(self, depth, open_to_groups):
+        row = [self.piece(depth, open_to_groups) for times in range(self.draw.choice((0, 1, 1, 1, 2, 2, 3)))]
         return "".join(text for text, tree in row), ("row", tuple(tree for text, tree in row))
 
-    def piece(self, depth):
-        text, tree = self.draw.choice(ATOMS)
-        if depth > 0 and self.draw.random() < 0.5:
-            text, tree = self.pattern(depth - 1)
-            text = "(:" + text + ")"
+    def piece(self, depth, open_to_groups):
+        turned = self.draw.random() < 0.2
+        text, tree = self.atom(depth, open_to_groups and not turned)
         for times in range(self.draw.choice((0, 0, 0, 1, 1, 2))):
             sign, least, most = self.draw.choice(COUNTS)
             text, tree = text + sign, ("counted", tree, least, most)
-        if self.draw.random() < 0.2:
+        if turned:
             text, tree = "~" + text, ("turned", tree)
         return text, tree
+
+    def atom(self, depth, open_to_groups):
+        if depth == 0 or self.draw.random() < 0.5:
+            return self.draw.choice(ATOMS)
+        if not open_to_groups or self.draw.random() < 0.3:
+            text, tree = self.pattern(depth - 1, open_to_groups)
+            return "(:" + text + ")", tree
+        self.groups += 1
+        number = self.groups
+        text, tree = self.pattern(depth - 1, True)
+        return "(" + text + ")", ("group", tree, number)
 
 
 class Meaning(unittest.TestCase):
     def test_patterns_fit_what_the_words_say(self):
         drawn = Drawn(2)
-        tried = 0
-        while tried < 600:
-            text, tree = drawn.pattern(tried % 3)
-            if len(text) <= 40:
-                tried += 1
-                subject = SUBJECTS[tried % len(SUBJECTS)]
-                self.assertEqual(pieces(text, subject), meant(tree, subject), (text, subject))
+        for tried in range(600):
+            text, tree, groups = drawn.drawn(tried % 3, 0, 40)
+            subject = SUBJECTS[tried % len(SUBJECTS)]
+            self.assertEqual(pieces(text, subject), Meant(tree, subject).pieces(), (text, subject))
+            self.assertEqual(judged(text), [0, groups], text)
+
+    def test_pieces_and_groups_are_found_as_the_words_say(self):
+        drawn = Drawn(3)
+        for tried in range(900):
+            text, tree, groups = drawn.drawn(1 + tried % 3, tried % 4, 50)
+            subject = SUBJECTS[tried % len(SUBJECTS)]
+            meant = Meant(tree, subject)
+            for start in range(len(subject) + 1):
+                piece = meant.found(start)
+                answer = [9, 5]
+                if piece is not None:
+                    places = meant.places(*piece)
+                    answer = found_piece(piece, *(places.get(number + 1) for number in range(groups)))
+                self.assertEqual(found(text, subject, start), answer, (text, subject, start))
+            self.assertEqual(everywhere(text, subject), found_pieces(*meant.all_found()), (text, subject))
 
 
 if __name__ == "__main__":
