@@ -110,6 +110,14 @@ class Groups(unittest.TestCase):
         self.check("(a|ab|bc|c)*", "abc", (0, 3), (2, 3))
         self.check("(a*){2}b", "aab", (0, 3), (2, 2))
 
+    def test_the_one_leaves_no_more_than_the_counts_allow(self):
+        self.check("(abc|ab|cde|d|e){1,2}", "abcde", (0, 5), (2, 5))
+        self.check("(abc|ab|cde|d|e){0,2}", "abcde", (0, 5), (2, 5))
+        self.check("(abc|ab|cde|d|e){2}", "abcde", (0, 5), (2, 5))
+        self.check("(abc|ab|cde|d|e){1,3}", "abcde", (0, 5), (4, 5))
+        self.check("(abc|ab|cde|d|e)*", "abcde", (0, 5), (4, 5))
+        self.check("(a|abc|b|cd){3,4}", "abcd", (0, 4), (2, 4))
+
     def test_one_that_fits_none_of_the_times(self):
         for pattern in ("(a)*", "(a)?", "(a){0}", "(a){0,0}", "(a){0,5}", "(a){0,}", "(:(a)){0}", "(a){0}*", "(a)*+"):
             self.check(pattern, "b", (0, 0), None)
