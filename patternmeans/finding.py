@@ -25,3 +25,14 @@ def found_spans(ends):
         spans.append(span)
         span = found_behind(ends, span[1])
     return spans
+
+
+def spans_between(spans, length):
+    """The spans that spans in order leave: before the first, between them, behind the last."""
+    between = []
+    place = 0
+    for span in spans:
+        between.append((place, span[0]))
+        place = span[1]
+    between.append((place, length))
+    return between

@@ -1,18 +1,19 @@
 """The calls: what is asked of a pattern, and what is answered."""
 
-from patternmeans.finding import found_from, found_spans
+from patternmeans.finding import found_from, found_spans, spans_between
 from patternmeans.fitting import all_ends, fits_piece
 from patternmeans.grouping import group_places
 from patternmeans.reading import Fault, read_pattern
+from patternmeans.replacing import filled_in, read_by, within
 
 LONGEST = 200
 
 ANSWERED = 0
 REFUSED = 9
 BEYOND_BOUNDS = 1
-NO_PATTERN = 2
+FAULTY = 2
 NONE_FOUND = 5
-FIRST_PATTERN = 0
+FIRST = 0
 
 NO_PLACE = 0
 PLACE = 1
@@ -25,7 +26,7 @@ def judge(pattern):
     try:
         reader = read_pattern(pattern)
     except Fault as fault:
-        return no_pattern(fault)
+        return told_fault(fault)
     return [ANSWERED, reader.groups]
 
 
@@ -36,7 +37,7 @@ def fits(start, to, pattern, subject):
     try:
         reader = read_pattern(pattern)
     except Fault as fault:
-        return no_pattern(fault)
+        return told_fault(fault)
     ends = all_ends(reader.forms, subject)[-1]
     return [ANSWERED, 1 if fits_piece(ends, start, to) else 0]
 
@@ -48,7 +49,7 @@ def find(start, pattern, subject):
     try:
         reader = read_pattern(pattern)
     except Fault as fault:
-        return no_pattern(fault)
+        return told_fault(fault)
     ends_of = all_ends(reader.forms, subject)
     span = found_from(ends_of[-1], start)
     if span is None:
@@ -63,8 +64,39 @@ def all_found(pattern, subject):
     try:
         reader = read_pattern(pattern)
     except Fault as fault:
-        return no_pattern(fault)
+        return told_fault(fault)
     return [ANSWERED] + told_spans(found_spans(all_ends(reader.forms, subject)[-1]))
+
+
+def split(pattern, subject):
+    """Answers the spans between all pieces found."""
+    if len(pattern) > LONGEST or len(subject) > LONGEST:
+        return [REFUSED, BEYOND_BOUNDS]
+    try:
+        reader = read_pattern(pattern)
+    except Fault as fault:
+        return told_fault(fault)
+    spans = found_spans(all_ends(reader.forms, subject)[-1])
+    return [ANSWERED] + told_spans(spans_between(spans, len(subject)))
+
+
+def replace(pattern, subject, by):
+    """Answers the subject's bytes with each piece found replaced by what by tells."""
+    if len(pattern) > LONGEST or len(subject) > LONGEST or len(by) > LONGEST:
+        return [REFUSED, BEYOND_BOUNDS]
+    try:
+        reader = read_pattern(pattern)
+        items = read_by(by)
+    except Fault as fault:
+        return told_fault(fault)
+    ends_of = all_ends(reader.forms, subject)
+    pieces = found_spans(ends_of[-1])
+    between = spans_between(pieces, len(subject))
+    told = within(subject, between[0])
+    for piece, behind in zip(pieces, between[1:]):
+        told.extend(filled_in(items, subject, piece, group_places(reader.forms, ends_of, piece)))
+        told.extend(within(subject, behind))
+    return [ANSWERED, len(told)] + told
 
 
 def told_spans(spans):
@@ -87,6 +119,6 @@ def told_places(places):
     return numbers
 
 
-def no_pattern(fault):
-    """The refusal of what is no pattern, by its fault."""
-    return [REFUSED, NO_PATTERN, FIRST_PATTERN, fault.rule, fault.place]
+def told_fault(fault):
+    """The refusal of what has a fault."""
+    return [REFUSED, FAULTY, FIRST, fault.rule, fault.place]

@@ -20,7 +20,7 @@ PATTERN_ENDED = 256
 
 
 class Fault(Exception):
-    """What keeps a list of bytes from being a pattern: the broken rule, and the place."""
+    """What keeps a list of bytes from being read: the broken rule, and the place."""
 
     def __init__(self, rule, place):
         self.rule = rule

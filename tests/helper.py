@@ -1,6 +1,8 @@
 """What the tests share: calls by texts, and the document's "What fits" word by word."""
 
-from patternmeans.patterns import all_found, find, fits, judge
+import re
+
+from patternmeans.patterns import all_found, find, fits, judge, replace, split
 
 NOT_PLAIN = "\\|&~*+?{}.^$()[]"
 SPECIALS = NOT_PLAIN + "-:"
@@ -40,6 +42,19 @@ def everywhere(pattern, subject):
 def found_pieces(*spans):
     """What all_found answers by the spans."""
     return [0, len(spans), *(place for span in spans for place in span)]
+
+
+def cut(pattern, subject):
+    return split(listed(pattern), listed(subject))
+
+
+def replaced(pattern, subject, by):
+    return replace(listed(pattern), listed(subject), listed(by))
+
+
+def replaced_by(text):
+    """What replace answers by the bytes that it gives."""
+    return [0, len(text), *listed(text)]
 
 
 def fault(rule, place):
@@ -131,6 +146,26 @@ class Meant:
             if span == (j, j):
                 span = self.found(j + 1)
         return spans
+
+    def between(self):
+        """The spans between all found."""
+        ends = [0, *(place for span in self.all_found() for place in span), self.length]
+        return list(zip(ends[::2], ends[1::2]))
+
+    def replaced(self, by):
+        """The subject with each piece found replaced by by, which has no fault."""
+        bounds = self.between()
+        result = list(self.subject[:bounds[0][1]])
+        for (i, j), (behind, to) in zip(self.all_found(), bounds[1:]):
+            spans = {0: (i, j), **self.places(i, j)}
+            for token in re.findall(rb"\$\$|\$[0-9]|[^$]", by, re.DOTALL):
+                if token[:1] != b"$" or token == b"$$":
+                    result += token[-1:]
+                elif int(token[1:]) in spans:
+                    k, m = spans[int(token[1:])]
+                    result += self.subject[k:m]
+            result += self.subject[behind:to]
+        return result
 
     def places(self, i, j):
         """Of each group that fits on the way from i to j by its number where it does so last."""

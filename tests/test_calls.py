@@ -1,8 +1,8 @@
 import sys
 import unittest
 
-from patternmeans.patterns import all_found, find, fits, judge
-from tests.helper import everywhere, fault, fitted, found, judged, listed
+from patternmeans.patterns import all_found, find, fits, judge, replace, split
+from tests.helper import cut, everywhere, fault, fitted, found, judged, listed, replaced
 
 LARGEST = 4294967295
 FAULTS = [
@@ -20,6 +20,8 @@ class Refused(unittest.TestCase):
                 self.assertEqual(fits(0, 0, pattern, []), [9, 1])
                 self.assertEqual(find(0, pattern, []), [9, 1])
                 self.assertEqual(all_found(pattern, []), [9, 1])
+                self.assertEqual(split(pattern, []), [9, 1])
+                self.assertEqual(replace(pattern, [], []), [9, 1])
 
     def test_subjects_of_more_than_200_bytes(self):
         for length in (201, 250, 300):
@@ -31,6 +33,8 @@ class Refused(unittest.TestCase):
                 self.assertEqual(find(0, pattern, subject), [9, 1])
                 self.assertEqual(find(length, pattern, subject), [9, 1])
                 self.assertEqual(all_found(pattern, subject), [9, 1])
+                self.assertEqual(split(pattern, subject), [9, 1])
+                self.assertEqual(replace(pattern, subject, []), [9, 1])
 
     def test_lengths_of_200(self):
         self.assertEqual(fits(0, 200, listed("a" * 200), listed("a" * 200)), [0, 1])
@@ -39,6 +43,8 @@ class Refused(unittest.TestCase):
         self.assertEqual(find(0, listed("a" * 200), listed("a" * 200)), [0, 0, 200, 0])
         self.assertEqual(find(200, listed("$?" * 100), listed("a" * 200)), [0, 200, 200, 0])
         self.assertEqual(all_found(listed("a" * 200), listed("a" * 200)), [0, 1, 0, 200])
+        self.assertEqual(split(listed("a" * 200), listed("a" * 200)), [0, 2, 0, 0, 200, 200])
+        self.assertEqual(replace(listed("a" * 200), listed("a" * 200), listed("b" * 200)), [0, 200] + [98] * 200)
 
     def test_places_beyond_the_subject(self):
         for pattern in ("", "a*", ")", "~(a)"):
@@ -67,6 +73,9 @@ class Refused(unittest.TestCase):
                 self.assertEqual(found(pattern, subject), fault(rule, place), pattern)
                 self.assertEqual(found(pattern, subject, len(subject)), fault(rule, place), pattern)
                 self.assertEqual(everywhere(pattern, subject), fault(rule, place), pattern)
+                self.assertEqual(cut(pattern, subject), fault(rule, place), pattern)
+                self.assertEqual(replaced(pattern, subject, "$0"), fault(rule, place), pattern)
+                self.assertEqual(replaced(pattern, subject, "$"), fault(rule, place), pattern)
 
 
 CASES = [
@@ -83,6 +92,9 @@ def calls():
         yield fits, [start, to, listed(pattern), listed(subject)]
         yield find, [start, listed(pattern), listed(subject)]
         yield all_found, [listed(pattern), listed(subject)]
+        yield split, [listed(pattern), listed(subject)]
+        for by in ("<$1$$$0>", "", "$x", "x" * 201):
+            yield replace, [listed(pattern), listed(subject), listed(by)]
 
 
 class ByItself(unittest.TestCase):
@@ -91,11 +103,13 @@ class ByItself(unittest.TestCase):
             call(*handed)
             self.assertEqual(handed, before, call)
 
-    def test_one_list_may_be_pattern_and_subject(self):
+    def test_one_list_may_be_handed_in_twice(self):
         both = listed("ab")
         self.assertEqual(fits(0, 2, both, both), [0, 1])
         self.assertEqual(find(0, both, both), [0, 0, 2, 0])
         self.assertEqual(all_found(both, both), [0, 1, 0, 2])
+        self.assertEqual(split(both, both), [0, 2, 0, 0, 2, 2])
+        self.assertEqual(replace(both, both, both), [0, 2, 97, 98])
         self.assertEqual(both, listed("ab"))
 
     def test_the_same_is_answered_again_whatever_was_asked_between(self):
@@ -127,6 +141,8 @@ class ByItself(unittest.TestCase):
         self.assertEqual(fits(start=0, to=1, pattern=listed("a"), subject=listed("a")), [0, 1])
         self.assertEqual(find(start=0, pattern=listed("a"), subject=listed("a")), [0, 0, 1, 0])
         self.assertEqual(all_found(pattern=listed("a"), subject=listed("a")), [0, 1, 0, 1])
+        self.assertEqual(split(pattern=listed("a"), subject=listed("a")), [0, 2, 0, 0, 1, 1])
+        self.assertEqual(replace(pattern=listed("a"), subject=listed("a"), by=listed("b")), [0, 1, 98])
 
 
 class CallsWithinOneAnother(unittest.TestCase):
@@ -146,6 +162,8 @@ class CallsWithinOneAnother(unittest.TestCase):
                     fitted(pattern, subject)
                     found(pattern, subject)
                     everywhere(pattern, subject)
+                    cut(pattern, subject)
+                    replaced(pattern, subject, "$0$1" * 50)
                 judged(pattern)
         finally:
             sys.setrecursionlimit(limit)
