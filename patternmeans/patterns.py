@@ -3,8 +3,11 @@
 from patternmeans.finding import found_from, found_spans, spans_between
 from patternmeans.fitting import all_ends, fits_piece
 from patternmeans.grouping import group_places
+from patternmeans.making import has_places, pattern_table
+from patternmeans.quoting import quoted
 from patternmeans.reading import Fault, read_pattern
 from patternmeans.replacing import filled_in, read_by, within
+from patternmeans.tables import TooMany
 
 LONGEST = 200
 
@@ -13,10 +16,15 @@ REFUSED = 9
 BEYOND_BOUNDS = 1
 FAULTY = 2
 NONE_FOUND = 5
+WITH_PLACES = 5
+TOO_MANY = 6
 FIRST = 0
 
 NO_PLACE = 0
 PLACE = 1
+
+NO_END = 0
+END_STATE = 1
 
 
 def judge(pattern):
@@ -99,6 +107,31 @@ def replace(pattern, subject, by):
     return [ANSWERED, len(told)] + told
 
 
+def quote(subject):
+    """Answers a pattern that fits just the subject."""
+    if len(subject) > LONGEST:
+        return [REFUSED, BEYOND_BOUNDS]
+    told = quoted(subject)
+    return [ANSWERED, len(told)] + told
+
+
+def table(pattern):
+    """Answers the pattern's table."""
+    if len(pattern) > LONGEST:
+        return [REFUSED, BEYOND_BOUNDS]
+    try:
+        forms = read_pattern(pattern).forms
+    except Fault as fault:
+        return told_fault(fault)
+    if has_places(forms):
+        return [REFUSED, WITH_PLACES]
+    try:
+        made = pattern_table(forms)
+    except TooMany:
+        return [REFUSED, TOO_MANY]
+    return [ANSWERED] + told_table(made)
+
+
 def told_spans(spans):
     """How many spans there are, then their numbers."""
     numbers = [len(spans)]
@@ -116,6 +149,15 @@ def told_places(places):
         else:
             numbers.append(PLACE)
             numbers.extend(place)
+    return numbers
+
+
+def told_table(made):
+    """How many states and classes, of each byte its class, and of each state all about it."""
+    numbers = [len(made.ends), len(made.steps[0])] + made.classes
+    for end, row in zip(made.ends, made.steps):
+        numbers.append(END_STATE if end else NO_END)
+        numbers.extend(row)
     return numbers
 
 

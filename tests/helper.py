@@ -1,8 +1,9 @@
-"""What the tests share: calls by texts, and the document's "What fits" word by word."""
+"""What the tests share: calls by texts, and the document's words taken one by one."""
 
+import random
 import re
 
-from patternmeans.patterns import all_found, find, fits, judge, replace, split
+from patternmeans.patterns import all_found, find, fits, judge, quote, replace, split, table
 
 NOT_PLAIN = "\\|&~*+?{}.^$()[]"
 SPECIALS = NOT_PLAIN + "-:"
@@ -55,6 +56,14 @@ def replaced(pattern, subject, by):
 def replaced_by(text):
     """What replace answers by the bytes that it gives."""
     return [0, len(text), *listed(text)]
+
+
+def quoted(subject):
+    return quote(listed(subject))
+
+
+def tabled(pattern):
+    return table(listed(pattern))
 
 
 def fault(rule, place):
@@ -189,3 +198,180 @@ class Meant:
             k = max(k for k in range(least, j + 1) if self.does(x[1], i, k) and self.does(rest, k, j))
             self.go(x[1], i, k, places)
             self.go(rest, k, j, places)
+
+
+class TooManyStates(Exception):
+    pass
+
+
+class Made:
+    """A tree's table, made by the document's words alone.
+
+    The groups are lists of bytes; each set of the tree holds all bytes of a group or none.
+    A table is told by the ends and by the next states of each state by each group.
+    """
+
+    def __init__(self, groups):
+        self.groups = sorted(sorted(group) for group in groups)
+        assert sorted(byte for group in self.groups for byte in group) == list(range(256))
+        self.empty_row = self.least("before", lambda state, group: "behind", lambda state: state == "before")
+
+    def answer(self, tree):
+        """What table answers of the tree's pattern."""
+        try:
+            ends, steps = self.made(tree)
+        except TooManyStates:
+            return [9, 6]
+        columns = list(zip(*steps))
+        kept = list(dict.fromkeys(columns))
+        class_of = {byte: kept.index(column) for group, column in zip(self.groups, columns) for byte in group}
+        numbers = [len(ends), len(kept), *(class_of[byte] for byte in range(256))]
+        for state, end in enumerate(ends):
+            numbers += [int(end), *(column[state] for column in kept)]
+        return [0, *numbers]
+
+    def made(self, x):
+        if x[0] == "bytes":
+            return self.one_byte(x[1])
+        if x[0] == "turned":
+            ends, steps = self.made(x[1])
+            return [not end for end in ends], steps
+        if x[0] == "group":
+            return self.made(x[1])
+        if x[0] == "counted":
+            return self.counted(self.made(x[1]), x[2], x[3])
+        parts = [self.made(y) for y in x[1]]
+        if not parts:
+            return self.empty_row
+        made = parts.pop()
+        while parts:
+            one = parts.pop()
+            made = self.row(one, made) if x[0] == "row" else self.pairs(x[0], one, made)
+        return made
+
+    def least(self, beginning, step, is_end):
+        """The least table of the states that are come to from the beginning."""
+        groups = range(len(self.groups))
+        states = {beginning: None}
+        ahead = [beginning]
+        while ahead:
+            for state in [step(ahead[0], group) for group in groups]:
+                if state not in states:
+                    states[state] = None
+                    ahead.append(state)
+            if len(states) > 100:
+                raise TooManyStates
+            ahead.pop(0)
+        blocks = {state: is_end(state) for state in states}
+        parted = 0
+        while parted < len(set(blocks.values())):
+            parted = len(set(blocks.values()))
+            told = {state: (blocks[state], *(blocks[step(state, group)] for group in groups)) for state in states}
+            numbers = {block: number for number, block in enumerate(set(told.values()))}
+            blocks = {state: numbers[told[state]] for state in states}
+        member = {block: state for state, block in blocks.items()}
+        order = [blocks[beginning]]
+        for block in order:
+            nexts = [blocks[step(member[block], group)] for group in groups]
+            order += [block for block in dict.fromkeys(nexts) if block not in order]
+        steps = [[order.index(blocks[step(member[block], group)]) for group in groups] for block in order]
+        return [is_end(member[block]) for block in order], steps
+
+    def one_byte(self, members):
+        inside = [group[0] in members for group in self.groups]
+        assert all((byte in members) == within for group, within in zip(self.groups, inside) for byte in group)
+        return self.least(
+            "before", lambda state, group: "in" if state == "before" and inside[group] else "out",
+            lambda state: state == "in",
+        )
+
+    def pairs(self, kind, one, other):
+        ends = any if kind == "either" else all
+        return self.least(
+            (0, 0), lambda pair, group: (one[1][pair[0]][group], other[1][pair[1]][group]),
+            lambda pair: ends([one[0][pair[0]], other[0][pair[1]]]),
+        )
+
+    def row(self, one, other):
+        def joined(state, states):
+            return state, frozenset(states | {0} if one[0][state] else states)
+
+        return self.least(
+            joined(0, set()), lambda pair, group: joined(one[1][pair[0]][group], {other[1][y][group] for y in pair[1]}),
+            lambda pair: any(other[0][y] for y in pair[1]),
+        )
+
+    def any_number(self, once):
+        def step(states, group):
+            states = {once[1][x][group] for x in ([0] if states == "beginning" else states)}
+            return frozenset(states | {0} if any(once[0][x] for x in states) else states)
+
+        return self.least("beginning", step, lambda states: states == "beginning" or any(once[0][x] for x in states))
+
+    def counted(self, once, least, most):
+        ahead = self.empty_row
+        for times in range(least):
+            ahead = self.row(ahead, once)
+        if most == least:
+            return ahead
+        behind = self.empty_row
+        if most is None:
+            behind = self.any_number(once)
+        else:
+            for times in range(most - least):
+                behind = self.pairs("either", self.empty_row, self.row(once, behind))
+        return self.row(ahead, behind) if least > 0 else behind
+
+
+class Drawn:
+    """Patterns with their trees, drawn by a fixed seed from atoms with their trees, and from counts."""
+
+    def __init__(self, seed, atoms, counts):
+        self.draw = random.Random(seed)
+        self.atoms = atoms
+        self.counts = counts
+        self.groups = 0
+
+    def drawn(self, depth, fewest, longest):
+        """A pattern with no fewer groups and no more bytes, its tree, and how many groups it has."""
+        while True:
+            self.groups = 0
+            text, tree = self.pattern(depth, True)
+            if len(text) <= longest and self.groups >= fewest:
+                return text, tree, self.groups
+
+    def pattern(self, depth, open_to_groups):
+        rows = [self.row(depth, open_to_groups) for times in range(self.draw.choice((1, 1, 1, 2, 3)))]
+        return "|".join(text for text, tree in rows), ("either", tuple(tree for text, tree in rows))
+
+    def row(self, depth, open_to_groups):
+        how_many = self.draw.choice((1, 1, 1, 1, 2, 3))
+        if how_many == 1:
+            return self.part(depth, open_to_groups)
+        parts = [self.part(depth, False) for times in range(how_many)]
+        return "&".join(text for text, tree in parts), ("both", tuple(tree for text, tree in parts))
+
+    def part(self, depth, open_to_groups):
+        row = [self.piece(depth, open_to_groups) for times in range(self.draw.choice((0, 1, 1, 1, 2, 2, 3)))]
+        return "".join(text for text, tree in row), ("row", tuple(tree for text, tree in row))
+
+    def piece(self, depth, open_to_groups):
+        turned = self.draw.random() < 0.2
+        text, tree = self.atom(depth, open_to_groups and not turned)
+        for times in range(self.draw.choice((0, 0, 0, 1, 1, 2))):
+            sign, least, most = self.draw.choice(self.counts)
+            text, tree = text + sign, ("counted", tree, least, most)
+        if turned:
+            text, tree = "~" + text, ("turned", tree)
+        return text, tree
+
+    def atom(self, depth, open_to_groups):
+        if depth == 0 or self.draw.random() < 0.5:
+            return self.draw.choice(self.atoms)
+        if not open_to_groups or self.draw.random() < 0.3:
+            text, tree = self.pattern(depth - 1, open_to_groups)
+            return "(:" + text + ")", tree
+        self.groups += 1
+        number = self.groups
+        text, tree = self.pattern(depth - 1, True)
+        return "(" + text + ")", ("group", tree, number)

@@ -1,8 +1,8 @@
 import sys
 import unittest
 
-from patternmeans.patterns import all_found, find, fits, judge, replace, split
-from tests.helper import cut, everywhere, fault, fitted, found, judged, listed, replaced
+from patternmeans.patterns import all_found, find, fits, judge, quote, replace, split, table
+from tests.helper import cut, everywhere, fault, fitted, found, judged, listed, quoted, replaced, tabled
 
 LARGEST = 4294967295
 FAULTS = [
@@ -22,10 +22,12 @@ class Refused(unittest.TestCase):
                 self.assertEqual(all_found(pattern, []), [9, 1])
                 self.assertEqual(split(pattern, []), [9, 1])
                 self.assertEqual(replace(pattern, [], []), [9, 1])
+                self.assertEqual(table(pattern), [9, 1])
 
     def test_subjects_of_more_than_200_bytes(self):
         for length in (201, 250, 300):
             subject = listed("a" * length)
+            self.assertEqual(quote(subject), [9, 1])
             for pattern in ("a*", "", "b", ")", "a{2,1}", "a" * 300):
                 pattern = listed(pattern)
                 self.assertEqual(fits(0, 0, pattern, subject), [9, 1])
@@ -45,6 +47,8 @@ class Refused(unittest.TestCase):
         self.assertEqual(all_found(listed("a" * 200), listed("a" * 200)), [0, 1, 0, 200])
         self.assertEqual(split(listed("a" * 200), listed("a" * 200)), [0, 2, 0, 0, 200, 200])
         self.assertEqual(replace(listed("a" * 200), listed("a" * 200), listed("b" * 200)), [0, 200] + [98] * 200)
+        self.assertEqual(quote(listed("a" * 200)), [0, 200] + [97] * 200)
+        self.assertEqual(table(listed("a" * 200)), [9, 6])
 
     def test_places_beyond_the_subject(self):
         for pattern in ("", "a*", ")", "~(a)"):
@@ -68,6 +72,7 @@ class Refused(unittest.TestCase):
     def test_a_fault_of_the_pattern(self):
         for pattern, rule, place in FAULTS:
             self.assertEqual(judged(pattern), fault(rule, place), pattern)
+            self.assertEqual(tabled(pattern), fault(rule, place), pattern)
             for subject in ("aaa", "", "xyz", "b" * 200):
                 self.assertEqual(fitted(pattern, subject), fault(rule, place), pattern)
                 self.assertEqual(found(pattern, subject), fault(rule, place), pattern)
@@ -82,6 +87,7 @@ CASES = [
     ("(a|ab)(c|bcd)(d*)", "abcd", 0, 4), ("~(:.*b.*)", "aab", 0, 2), ("a{2,1}", "aab", 0, 2), ("", "", 0, 0),
     ("[^a-c]+", "xyz", 1, 3), ("a" * 201, "a", 0, 1), ("a", "a", 0, 2), ("\\b(:a&.)\\b", "a a", 2, 3), ("(a)&b", "a", 0, 1),
     ("a*", "a" * 201, 0, 1), ("a*", "aaa", 2, 1), ("((a)|(b))*", "cabc", 3, 3), ("(x)", "aaa", 4, 4), ("b", "aab", 3, 3),
+    ("a{98}", "\x00\n\t\\", 0, 1), ("[^a]+&~(:bb|.{3})", "bb", 0, 2), ("(:.|\\n)*", "a\n", 0, 2),
 ]
 
 
@@ -89,6 +95,8 @@ def calls():
     """Each call by its function and its arguments, which are new lists each time."""
     for pattern, subject, start, to in CASES:
         yield judge, [listed(pattern)]
+        yield quote, [listed(subject)]
+        yield table, [listed(pattern)]
         yield fits, [start, to, listed(pattern), listed(subject)]
         yield find, [start, listed(pattern), listed(subject)]
         yield all_found, [listed(pattern), listed(subject)]
@@ -110,6 +118,8 @@ class ByItself(unittest.TestCase):
         self.assertEqual(all_found(both, both), [0, 1, 0, 2])
         self.assertEqual(split(both, both), [0, 2, 0, 0, 2, 2])
         self.assertEqual(replace(both, both, both), [0, 2, 97, 98])
+        self.assertEqual(quote(both), [0, 2, 97, 98])
+        self.assertEqual(table(both)[:3], [0, 4, 3])
         self.assertEqual(both, listed("ab"))
 
     def test_the_same_is_answered_again_whatever_was_asked_between(self):
@@ -143,6 +153,8 @@ class ByItself(unittest.TestCase):
         self.assertEqual(all_found(pattern=listed("a"), subject=listed("a")), [0, 1, 0, 1])
         self.assertEqual(split(pattern=listed("a"), subject=listed("a")), [0, 2, 0, 0, 1, 1])
         self.assertEqual(replace(pattern=listed("a"), subject=listed("a"), by=listed("b")), [0, 1, 98])
+        self.assertEqual(quote(subject=listed("a")), [0, 1, 97])
+        self.assertEqual(table(pattern=listed("(:.|\\n)*")), [0, 1, 1] + [0] * 256 + [1, 0])
 
 
 class CallsWithinOneAnother(unittest.TestCase):
@@ -165,6 +177,7 @@ class CallsWithinOneAnother(unittest.TestCase):
                     cut(pattern, subject)
                     replaced(pattern, subject, "$0$1" * 50)
                 judged(pattern)
+                tabled(pattern)
         finally:
             sys.setrecursionlimit(limit)
 

@@ -117,6 +117,14 @@ class Language(unittest.TestCase):
                 for row in node.body:
                     self.assertTrue(isinstance(row, ast.FunctionDef) or ast.get_docstring(node) and row == node.body[0])
 
+    def test_lambdas_of_the_same_parameters_stand_apart(self):
+        seen = set()
+        for name, node in nodes():
+            if isinstance(node, ast.Lambda):
+                place = (name, node.lineno, tuple(taken.arg for taken in node.args.args))
+                self.assertNotIn(place, seen)
+                seen.add(place)
+
     def test_imports(self):
         drawn = {}
         for name, node in nodes():
