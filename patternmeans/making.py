@@ -20,9 +20,16 @@ FITTING = 1
 OTHER = 2
 
 
-def has_places(forms):
-    """Whether some form of the pattern fits by its place alone, so that it has no table."""
-    return any([form.kind in (BEGIN, END, EDGE, NO_EDGE) for form in forms])
+class HasPlaces(Exception):
+    """A pattern has a form that fits by its place alone, so that it has no table."""
+
+
+def pattern_tables(patterns):
+    """The tables of patterns, each of which is told by its forms."""
+    for forms in patterns:
+        if any([form.kind in (BEGIN, END, EDGE, NO_EDGE) for form in forms]):
+            raise HasPlaces()
+    return [pattern_table(forms) for forms in patterns]
 
 
 def pattern_table(forms):

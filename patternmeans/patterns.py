@@ -3,11 +3,12 @@
 from patternmeans.finding import found_from, found_spans, spans_between
 from patternmeans.fitting import all_ends, fits_piece
 from patternmeans.grouping import group_places
-from patternmeans.making import has_places, pattern_table
+from patternmeans.making import HasPlaces, pattern_tables
 from patternmeans.quoting import quoted
 from patternmeans.reading import Fault, read_pattern
 from patternmeans.replacing import filled_in, read_by, within
 from patternmeans.tables import TooMany
+from patternmeans.words import least_difference, number_of_words
 
 LONGEST = 200
 
@@ -18,7 +19,9 @@ FAULTY = 2
 NONE_FOUND = 5
 WITH_PLACES = 5
 TOO_MANY = 6
+NO_DIFFERENCE = 7
 FIRST = 0
+SECOND = 1
 
 NO_PLACE = 0
 PLACE = 1
@@ -34,7 +37,7 @@ def judge(pattern):
     try:
         reader = read_pattern(pattern)
     except Fault as fault:
-        return told_fault(fault)
+        return told_fault(FIRST, fault)
     return [ANSWERED, reader.groups]
 
 
@@ -45,7 +48,7 @@ def fits(start, to, pattern, subject):
     try:
         reader = read_pattern(pattern)
     except Fault as fault:
-        return told_fault(fault)
+        return told_fault(FIRST, fault)
     ends = all_ends(reader.forms, subject)[-1]
     return [ANSWERED, 1 if fits_piece(ends, start, to) else 0]
 
@@ -57,7 +60,7 @@ def find(start, pattern, subject):
     try:
         reader = read_pattern(pattern)
     except Fault as fault:
-        return told_fault(fault)
+        return told_fault(FIRST, fault)
     ends_of = all_ends(reader.forms, subject)
     span = found_from(ends_of[-1], start)
     if span is None:
@@ -72,7 +75,7 @@ def all_found(pattern, subject):
     try:
         reader = read_pattern(pattern)
     except Fault as fault:
-        return told_fault(fault)
+        return told_fault(FIRST, fault)
     return [ANSWERED] + told_spans(found_spans(all_ends(reader.forms, subject)[-1]))
 
 
@@ -83,7 +86,7 @@ def split(pattern, subject):
     try:
         reader = read_pattern(pattern)
     except Fault as fault:
-        return told_fault(fault)
+        return told_fault(FIRST, fault)
     spans = found_spans(all_ends(reader.forms, subject)[-1])
     return [ANSWERED] + told_spans(spans_between(spans, len(subject)))
 
@@ -96,7 +99,7 @@ def replace(pattern, subject, by):
         reader = read_pattern(pattern)
         items = read_by(by)
     except Fault as fault:
-        return told_fault(fault)
+        return told_fault(FIRST, fault)
     ends_of = all_ends(reader.forms, subject)
     pieces = found_spans(ends_of[-1])
     between = spans_between(pieces, len(subject))
@@ -120,16 +123,53 @@ def table(pattern):
     if len(pattern) > LONGEST:
         return [REFUSED, BEYOND_BOUNDS]
     try:
-        forms = read_pattern(pattern).forms
+        made = pattern_tables([read_pattern(pattern).forms])
     except Fault as fault:
-        return told_fault(fault)
-    if has_places(forms):
+        return told_fault(FIRST, fault)
+    except HasPlaces:
         return [REFUSED, WITH_PLACES]
-    try:
-        made = pattern_table(forms)
     except TooMany:
         return [REFUSED, TOO_MANY]
-    return [ANSWERED] + told_table(made)
+    return [ANSWERED] + told_table(made[0])
+
+
+def differ(pattern, other):
+    """Answers the least word that just one of the patterns fits."""
+    if len(pattern) > LONGEST or len(other) > LONGEST:
+        return [REFUSED, BEYOND_BOUNDS]
+    try:
+        first = read_pattern(pattern)
+    except Fault as fault:
+        return told_fault(FIRST, fault)
+    try:
+        second = read_pattern(other)
+    except Fault as fault:
+        return told_fault(SECOND, fault)
+    try:
+        made = pattern_tables([first.forms, second.forms])
+    except HasPlaces:
+        return [REFUSED, WITH_PLACES]
+    except TooMany:
+        return [REFUSED, TOO_MANY]
+    word = least_difference(made[0], made[1])
+    if word is None:
+        return [REFUSED, NO_DIFFERENCE]
+    return [ANSWERED, len(word)] + word
+
+
+def count(length, pattern):
+    """Answers how many words of the length the pattern fits."""
+    if len(pattern) > LONGEST or length > LONGEST:
+        return [REFUSED, BEYOND_BOUNDS]
+    try:
+        made = pattern_tables([read_pattern(pattern).forms])
+    except Fault as fault:
+        return told_fault(FIRST, fault)
+    except HasPlaces:
+        return [REFUSED, WITH_PLACES]
+    except TooMany:
+        return [REFUSED, TOO_MANY]
+    return [ANSWERED, number_of_words(made[0], length)]
 
 
 def told_spans(spans):
@@ -161,6 +201,6 @@ def told_table(made):
     return numbers
 
 
-def told_fault(fault):
-    """The refusal of what has a fault."""
-    return [REFUSED, FAULTY, FIRST, fault.rule, fault.place]
+def told_fault(which, fault):
+    """The refusal of the first or the second pattern, or of by, which has a fault."""
+    return [REFUSED, FAULTY, which, fault.rule, fault.place]

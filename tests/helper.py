@@ -3,7 +3,7 @@
 import random
 import re
 
-from patternmeans.patterns import all_found, find, fits, judge, quote, replace, split, table
+from patternmeans.patterns import all_found, count, differ, find, fits, judge, quote, replace, split, table
 
 NOT_PLAIN = "\\|&~*+?{}.^$()[]"
 SPECIALS = NOT_PLAIN + "-:"
@@ -66,8 +66,16 @@ def tabled(pattern):
     return table(listed(pattern))
 
 
-def fault(rule, place):
-    return [9, 2, 0, rule, place]
+def differed(pattern, other):
+    return differ(listed(pattern), listed(other))
+
+
+def counted(pattern, length):
+    return count(length, listed(pattern))
+
+
+def fault(rule, place, which=0):
+    return [9, 2, which, rule, place]
 
 
 def pieces(pattern, subject):
@@ -198,6 +206,20 @@ class Meant:
             k = max(k for k in range(least, j + 1) if self.does(x[1], i, k) and self.does(rest, k, j))
             self.go(x[1], i, k, places)
             self.go(rest, k, j, places)
+
+
+EVERY = frozenset(range(256))
+# Atoms without places, with trees whose sets are made of the groups.
+ATOMS = [
+    ("a", ("bytes", b"a")), ("b", ("bytes", b"b")), ("[ab]", ("bytes", b"ab")), ("[^a]", ("bytes", EVERY - {97})),
+    (".", ("bytes", EVERY - {10})), ("\\n", ("bytes", b"\n")), ("[^\\x00-\\xff]", ("bytes", b"")),
+    ("[\\x00-\\xff]", ("bytes", EVERY)), ("\\x00", ("bytes", b"\x00")), ("[^\\x00\\xff]", ("bytes", EVERY - {0, 255})),
+]
+GROUPS = [[0], [*range(1, 10), *range(11, 97), *range(99, 255)], [10], [97], [98], [255]]
+COUNTS = [
+    ("*", 0, None), ("+", 1, None), ("?", 0, 1), ("{0}", 0, 0), ("{0,0}", 0, 0), ("{1}", 1, 1), ("{2}", 2, 2),
+    ("{3}", 3, 3), ("{0,}", 0, None), ("{2,}", 2, None), ("{1,2}", 1, 2), ("{2,4}", 2, 4), ("{0,3}", 0, 3),
+]
 
 
 class TooManyStates(Exception):
@@ -339,6 +361,13 @@ class Drawn:
             text, tree = self.pattern(depth, True)
             if len(text) <= longest and self.groups >= fewest:
                 return text, tree, self.groups
+
+    def without_groups(self, depth, longest):
+        """A pattern with no group and no more bytes."""
+        while True:
+            text = self.pattern(depth, False)[0]
+            if len(text) <= longest:
+                return text
 
     def pattern(self, depth, open_to_groups):
         rows = [self.row(depth, open_to_groups) for times in range(self.draw.choice((1, 1, 1, 2, 3)))]

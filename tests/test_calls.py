@@ -1,8 +1,10 @@
 import sys
 import unittest
 
-from patternmeans.patterns import all_found, find, fits, judge, quote, replace, split, table
-from tests.helper import cut, everywhere, fault, fitted, found, judged, listed, quoted, replaced, tabled
+from patternmeans.patterns import all_found, count, differ, find, fits, judge, quote, replace, split, table
+from tests.helper import (
+    counted, cut, differed, everywhere, fault, fitted, found, judged, listed, quoted, replaced, tabled,
+)
 
 LARGEST = 4294967295
 FAULTS = [
@@ -23,6 +25,9 @@ class Refused(unittest.TestCase):
                 self.assertEqual(split(pattern, []), [9, 1])
                 self.assertEqual(replace(pattern, [], []), [9, 1])
                 self.assertEqual(table(pattern), [9, 1])
+                self.assertEqual(differ(pattern, []), [9, 1])
+                self.assertEqual(differ([], pattern), [9, 1])
+                self.assertEqual(count(0, pattern), [9, 1])
 
     def test_subjects_of_more_than_200_bytes(self):
         for length in (201, 250, 300):
@@ -73,6 +78,10 @@ class Refused(unittest.TestCase):
         for pattern, rule, place in FAULTS:
             self.assertEqual(judged(pattern), fault(rule, place), pattern)
             self.assertEqual(tabled(pattern), fault(rule, place), pattern)
+            self.assertEqual(counted(pattern, 3), fault(rule, place), pattern)
+            self.assertEqual(differed(pattern, "a"), fault(rule, place), pattern)
+            self.assertEqual(differed(pattern, "a{3,2}"), fault(rule, place), pattern)
+            self.assertEqual(differed("a", pattern), fault(rule, place, 1), pattern)
             for subject in ("aaa", "", "xyz", "b" * 200):
                 self.assertEqual(fitted(pattern, subject), fault(rule, place), pattern)
                 self.assertEqual(found(pattern, subject), fault(rule, place), pattern)
@@ -97,6 +106,10 @@ def calls():
         yield judge, [listed(pattern)]
         yield quote, [listed(subject)]
         yield table, [listed(pattern)]
+        yield differ, [listed(pattern), listed("a*")]
+        yield differ, [listed("(:.|\\n)*"), listed(pattern)]
+        yield count, [start, listed(pattern)]
+        yield count, [198 + to, listed(pattern)]
         yield fits, [start, to, listed(pattern), listed(subject)]
         yield find, [start, listed(pattern), listed(subject)]
         yield all_found, [listed(pattern), listed(subject)]
@@ -120,6 +133,7 @@ class ByItself(unittest.TestCase):
         self.assertEqual(replace(both, both, both), [0, 2, 97, 98])
         self.assertEqual(quote(both), [0, 2, 97, 98])
         self.assertEqual(table(both)[:3], [0, 4, 3])
+        self.assertEqual(differ(both, both), [9, 7])
         self.assertEqual(both, listed("ab"))
 
     def test_the_same_is_answered_again_whatever_was_asked_between(self):
@@ -154,6 +168,8 @@ class ByItself(unittest.TestCase):
         self.assertEqual(split(pattern=listed("a"), subject=listed("a")), [0, 2, 0, 0, 1, 1])
         self.assertEqual(replace(pattern=listed("a"), subject=listed("a"), by=listed("b")), [0, 1, 98])
         self.assertEqual(quote(subject=listed("a")), [0, 1, 97])
+        self.assertEqual(differ(pattern=listed("a"), other=listed("b")), [0, 1, 97])
+        self.assertEqual(count(length=2, pattern=listed("[ab]*")), [0, 4])
         self.assertEqual(table(pattern=listed("(:.|\\n)*")), [0, 1, 1] + [0] * 256 + [1, 0])
 
 
@@ -178,6 +194,9 @@ class CallsWithinOneAnother(unittest.TestCase):
                     replaced(pattern, subject, "$0$1" * 50)
                 judged(pattern)
                 tabled(pattern)
+                differed(pattern, "a{97}")
+                differed("a{97}", pattern)
+                counted(pattern, 200)
         finally:
             sys.setrecursionlimit(limit)
 

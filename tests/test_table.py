@@ -2,22 +2,11 @@ import itertools
 import time
 import unittest
 
-from tests.helper import Drawn, Made, fault, fitted, listed, tabled
+from tests.helper import ATOMS, COUNTS, GROUPS, Drawn, Made, fault, fitted, listed, tabled
 
 TOO_MANY = [9, 6]
 WITH_PLACES = [9, 5]
 
-EVERY = frozenset(range(256))
-ATOMS = [
-    ("a", ("bytes", b"a")), ("b", ("bytes", b"b")), ("[ab]", ("bytes", b"ab")), ("[^a]", ("bytes", EVERY - {97})),
-    (".", ("bytes", EVERY - {10})), ("\\n", ("bytes", b"\n")), ("[^\\x00-\\xff]", ("bytes", b"")),
-    ("[\\x00-\\xff]", ("bytes", EVERY)), ("\\x00", ("bytes", b"\x00")), ("[^\\x00\\xff]", ("bytes", EVERY - {0, 255})),
-]
-GROUPS = [[0], [10], [97], [98], [255], EVERY - {0, 10, 97, 98, 255}]
-COUNTS = [
-    ("*", 0, None), ("+", 1, None), ("?", 0, 1), ("{0}", 0, 0), ("{0,0}", 0, 0), ("{1}", 1, 1), ("{2}", 2, 2),
-    ("{3}", 3, 3), ("{0,}", 0, None), ("{2,}", 2, None), ("{1,2}", 1, 2), ("{2,4}", 2, 4), ("{0,3}", 0, 3),
-]
 HIGH_COUNTS = [
     ("*", 0, None), ("?", 0, 1), ("{1}", 1, 1), ("{0}", 0, 0), ("{5}", 5, 5), ("{7}", 7, 7), ("{11}", 11, 11),
     ("{9,}", 9, None), ("{0,8}", 0, 8), ("{6,13}", 6, 13), ("{3,5}", 3, 5), ("{23}", 23, 23), ("{0,31}", 0, 31),
