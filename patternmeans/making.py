@@ -158,7 +158,7 @@ def any_number_table(once):
 def times_table(once, times):
     """The table of x so many times, from x's."""
     made = empty_row_table()
-    for time in range(times):
+    for number in range(times):
         longer = row_table(made, once)
         # Each step is made of the one before: what doesn't change it will never do so.
         if are_same(longer, made):
@@ -170,7 +170,7 @@ def times_table(once, times):
 def up_to_table(once, times):
     """The table of no x to so many, from x's."""
     made = empty_row_table()
-    for time in range(times):
+    for number in range(times):
         longer = either_table(empty_row_table(), row_table(once, made))
         if are_same(longer, made):
             return made

@@ -122,15 +122,7 @@ def table(pattern):
     """Answers the pattern's table."""
     if len(pattern) > LONGEST:
         return [REFUSED, BEYOND_BOUNDS]
-    try:
-        made = pattern_tables([read_pattern(pattern).forms])
-    except Fault as fault:
-        return told_fault(FIRST, fault)
-    except HasPlaces:
-        return [REFUSED, WITH_PLACES]
-    except TooMany:
-        return [REFUSED, TOO_MANY]
-    return [ANSWERED] + told_table(made[0])
+    return answer_by_table(pattern, told_table)
 
 
 def differ(pattern, other):
@@ -161,6 +153,11 @@ def count(length, pattern):
     """Answers how many words of the length the pattern fits."""
     if len(pattern) > LONGEST or length > LONGEST:
         return [REFUSED, BEYOND_BOUNDS]
+    return answer_by_table(pattern, lambda made: [number_of_words(made, length)])
+
+
+def answer_by_table(pattern, tell):
+    """Answers what tell tells of the pattern's table."""
     try:
         made = pattern_tables([read_pattern(pattern).forms])
     except Fault as fault:
@@ -169,7 +166,7 @@ def count(length, pattern):
         return [REFUSED, WITH_PLACES]
     except TooMany:
         return [REFUSED, TOO_MANY]
-    return [ANSWERED, number_of_words(made[0], length)]
+    return [ANSWERED] + tell(made[0])
 
 
 def told_spans(spans):
